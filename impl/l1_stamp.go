@@ -179,6 +179,15 @@ func (m Mark) fresh() Mark {
 	return Mark{Src: strings.Clone(m.Src), Ver: m.Ver}
 }
 
+// freshMarks are the marks in a list and with names of their own.
+func freshMarks(s []Mark) []Mark {
+	list := make([]Mark, 0, len(s))
+	for _, m := range s {
+		list = append(list, m.fresh())
+	}
+	return list
+}
+
 // text writes a mark.
 func (m Mark) text() string {
 	return m.Src + ":" + strconv.Itoa(m.Ver)
